@@ -9,23 +9,10 @@ import (
 
 	"casket/api"
 	"casket/field"
+	"casket/sample"
 )
 
 type block = [16]byte
-
-// numbers tells bytes that look like nothing, the same ones in each run.
-type numbers uint64
-
-func (n *numbers) bytes(count int) []byte {
-	list := make([]byte, count)
-	for i := range list {
-		*n = *n*6364136223846793005 + 1442695040888963407
-		list[i] = byte(*n >> 56)
-	}
-	return list
-}
-
-func (n *numbers) block() block { return block(n.bytes(16)) }
 
 func fromHex(t *testing.T, text string) []byte {
 	t.Helper()
@@ -56,11 +43,11 @@ func cipherOf(t *testing.T, key []byte) *Cipher {
 // someKeys are keys of both lengths: zeros, ones, and others.
 func someKeys() [][]byte {
 	var list [][]byte
-	source := numbers(7)
+	source := sample.Source(7)
 	for _, n := range []int{16, 32} {
 		list = append(list, make([]byte, n), bytes.Repeat([]byte{0xff}, n), rising(n, 1))
 		for range 20 {
-			list = append(list, source.bytes(n))
+			list = append(list, source.Bytes(n))
 		}
 	}
 	return list
@@ -86,7 +73,7 @@ func TestExamples(t *testing.T) {
 
 // P2.1
 func TestAgainstStandard(t *testing.T) {
-	source := numbers(11)
+	source := sample.Source(11)
 	for _, key := range someKeys() {
 		c := cipherOf(t, key)
 		other, err := standard.NewCipher(key)
@@ -94,7 +81,7 @@ func TestAgainstStandard(t *testing.T) {
 			t.Fatal(err)
 		}
 		for range 20 {
-			b := source.block()
+			b := block(source.Bytes(16))
 			var want block
 			other.Encrypt(want[:], b[:])
 			if got := c.Encrypt(b); got != want {
@@ -233,12 +220,12 @@ func TestNilCipher(t *testing.T) {
 
 // P2.2
 func TestThereAndBack(t *testing.T) {
-	source := numbers(13)
+	source := sample.Source(13)
 	for _, key := range someKeys() {
 		c := cipherOf(t, key)
 		blocks := []block{{}, block(bytes.Repeat([]byte{0xff}, 16)), block(rising(16, 1))}
 		for range 20 {
-			blocks = append(blocks, source.block())
+			blocks = append(blocks, block(source.Bytes(16)))
 		}
 		for _, b := range blocks {
 			if got := c.Decrypt(c.Encrypt(b)); got != b {
