@@ -14,6 +14,27 @@ func (s *Source) Bytes(count int) []byte {
 	return list
 }
 
+// Below is a number from 0 on, below a limit that is above 0.
+func (s *Source) Below(limit int) int {
+	number := 0
+	for _, b := range s.Bytes(4) {
+		number = number<<8 | int(b)
+	}
+	return number % limit
+}
+
+// Parts are pieces of b, one behind the other, short and long and some of them empty. They share b's memory.
+func (s *Source) Parts(b []byte) [][]byte {
+	var list [][]byte
+	for len(b) > 0 {
+		longest := min(len(b), 1+s.Below(200))
+		size := s.Below(longest + 1)
+		list = append(list, b[:size])
+		b = b[size:]
+	}
+	return list
+}
+
 // Bytes are the first ones of the source 0.
 func Bytes(count int) []byte {
 	var source Source

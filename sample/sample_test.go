@@ -28,3 +28,40 @@ func TestSourcesDiffer(t *testing.T) {
 		t.Error("two sources tell the same bytes")
 	}
 }
+
+func TestBelow(t *testing.T) {
+	source := Source(3)
+	for _, limit := range []int{1, 2, 7, 300} {
+		told := make([]int, limit)
+		for range 40 * limit {
+			told[source.Below(limit)]++
+		}
+		for n, count := range told {
+			if count == 0 {
+				t.Errorf("%d is never told below %d", n, limit)
+			}
+		}
+	}
+}
+
+func TestPartsAreAll(t *testing.T) {
+	source := Source(4)
+	empty, some := 0, 0
+	for n := range 500 {
+		b := source.Bytes(n)
+		parts := source.Parts(b)
+		if !bytes.Equal(bytes.Join(parts, nil), b) {
+			t.Fatalf("%d bytes: the parts are other bytes", n)
+		}
+		for _, part := range parts {
+			if len(part) == 0 {
+				empty++
+			} else {
+				some++
+			}
+		}
+	}
+	if empty == 0 || some < 1000 {
+		t.Errorf("%d parts are empty, %d are not", empty, some)
+	}
+}

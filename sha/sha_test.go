@@ -20,11 +20,6 @@ func stateOf(source *sample.Source) [8]uint32 {
 	return state
 }
 
-// below tells a number below limit.
-func below(source *sample.Source, limit int) int {
-	return int(binary.BigEndian.Uint32(source.Bytes(4))) % limit
-}
-
 func primes(count int) []int64 {
 	var list []int64
 	for n := int64(2); len(list) < count; n++ {
@@ -321,13 +316,11 @@ func TestTwoPieces(t *testing.T) {
 func TestManyPieces(t *testing.T) {
 	source := sample.Source(4)
 	for range 300 {
-		b := source.Bytes(below(&source, 2000))
+		b := source.Bytes(source.Below(2000))
 		want := standard.Sum256(b)
 		h := New()
-		for left := b; len(left) > 0; {
-			piece := left[:below(&source, min(len(left), 1+below(&source, 200))+1)]
-			h.Write(piece)
-			left = left[len(piece):]
+		for _, part := range source.Parts(b) {
+			h.Write(part)
 		}
 		if h.Sum() != want || h.Len() != len(b) || Sum(b) != want {
 			t.Fatalf("%d bytes in pieces: %x, not %x", len(b), h.Sum(), want)
