@@ -507,15 +507,11 @@ func TestArgumentsAreLeftAlone(t *testing.T) {
 func TestDigestIsNew(t *testing.T) {
 	for n := 1; n <= 64; n++ {
 		h := hashOf(t, n, nil)
-		first := h.Sum()
-		kept := bytes.Clone(first)
-		second := h.Sum()
-		clear(second[:cap(second)])
-		if !bytes.Equal(first, kept) || !bytes.Equal(h.Sum(), kept) {
-			t.Errorf("%d bytes: answers share memory", n)
+		if fault := sample.NotNew(h.Sum); fault != "" {
+			t.Errorf("%d bytes: %s", n, fault)
 		}
-		if behind := first[n:cap(first)]; !bytes.Equal(behind, make([]byte, len(behind))) {
-			t.Errorf("%d bytes: more are in the room behind them", n)
+		if fault := sample.NotNew(func() []byte { return sumOf(t, n, nil) }); fault != "" {
+			t.Errorf("%d bytes at once: %s", n, fault)
 		}
 	}
 }

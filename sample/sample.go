@@ -1,5 +1,7 @@
-// Package sample has bytes for the tests of the layers: they look like nothing, and are the same in each run.
+// Package sample has bytes for the tests of the layers: they look like nothing, and are the same in each run. It also looks at the memory of what calls answer.
 package sample
+
+import "bytes"
 
 // Source tells bytes, one behind the other; its number at first is what they hang on.
 type Source uint64
@@ -39,4 +41,27 @@ func (s *Source) Parts(b []byte) [][]byte {
 func Bytes(count int) []byte {
 	var source Source
 	return source.Bytes(count)
+}
+
+// NotNew tells what is wrong with the memory of a call's answer, which is the same bytes each time it is asked for; nothing, if the answer and the room behind it are new each time, and the room is empty.
+func NotNew(ask func() []byte) string {
+	first, second := ask(), ask()
+	kept, behind := bytes.Clone(first), first[len(first):cap(first)]
+	if !bytes.Equal(behind, make([]byte, len(behind))) {
+		return "bytes are in the room behind the answer"
+	}
+	turn(behind)
+	same := bytes.Equal(second, kept)
+	turn(second[:cap(second)])
+	if !same || !bytes.Equal(first, kept) || !bytes.Equal(ask(), kept) {
+		return "answers share memory"
+	}
+	return ""
+}
+
+// turn changes each byte.
+func turn(b []byte) {
+	for i := range b {
+		b[i] ^= 0xff
+	}
 }

@@ -65,3 +65,64 @@ func TestPartsAreAll(t *testing.T) {
 		t.Errorf("%d parts are empty, %d are not", empty, some)
 	}
 }
+
+func TestNotNew(t *testing.T) {
+	kept := Bytes(40)
+	for _, x := range []struct {
+		name string
+		ask  func() []byte
+		want string
+	}{
+		{"a copy", func() []byte { return bytes.Clone(kept) }, ""},
+		{"nothing", func() []byte { return nil }, ""},
+		{"a copy with room", func() []byte { return append(make([]byte, 0, 80), kept...) }, ""},
+		{"a copy with more behind it", func() []byte { return bytes.Clone(kept)[:30] }, "bytes are in the room behind the answer"},
+		{"what is kept", func() []byte { return kept }, "answers share memory"},
+		{"a piece of what is kept", func() []byte { return kept[:10:10] }, "answers share memory"},
+	} {
+		if got := NotNew(x.ask); got != x.want {
+			t.Errorf("%s: %q, not %q", x.name, got, x.want)
+		}
+	}
+}
+
+// Answers that are cut off one list: each lies in the room behind the one ahead.
+func TestNotNewLooksAtTheRoom(t *testing.T) {
+	for _, text := range []string{"0123456789", "\x00\x00\x00"} {
+		room := make([]byte, 100)
+		ask := func() []byte {
+			answer := room[:copy(room, text)]
+			room = room[len(text):]
+			return answer
+		}
+		if got := NotNew(func() []byte { return bytes.Clone(ask()) }); got != "" {
+			t.Errorf("%q, copied: %q", text, got)
+		}
+		if got := NotNew(func() []byte { return ask()[:len(text):len(text)] }); got != "" {
+			t.Errorf("%q, without the room: %q", text, got)
+		}
+		if got := NotNew(ask); got == "" {
+			t.Errorf("%q: the room behind an answer is another answer's", text)
+		}
+	}
+}
+
+// Answers that are made again and again in the same memory, and one that is handed out behind a copy of it.
+func TestNotNewLooksAtEachAnswer(t *testing.T) {
+	kept := make([]byte, 10)
+	again := func() []byte { return kept[:copy(kept, "0123456789")] }
+	if got := NotNew(again); got != "answers share memory" {
+		t.Errorf("made anew in the same memory: %q", got)
+	}
+	asked := 0
+	later := func() []byte {
+		asked++
+		if asked == 1 {
+			return bytes.Clone(kept)
+		}
+		return kept
+	}
+	if got := NotNew(later); got != "answers share memory" {
+		t.Errorf("handed out behind a copy: %q", got)
+	}
+}
