@@ -130,25 +130,6 @@ func (h *history) crashed(t *testing.T, keep []api.Kept) *history {
 	return nil
 }
 
-// keeps goes over all that a crash may keep of unsure writes; if there is too much of it, over some.
-func keeps(source *sample.Source, unsure []api.Kept, most int, look func(keep []api.Kept)) {
-	all := 1
-	for _, k := range unsure {
-		all = min(all*(k.Writes+1), most+1)
-	}
-	for i := range min(all, most) {
-		var keep []api.Kept
-		for _, k := range unsure {
-			n := source.Below(k.Writes + 1)
-			if all <= most {
-				n, i = i%(k.Writes+1), i/(k.Writes+1)
-			}
-			keep = append(keep, api.Kept{Block: k.Block, Writes: n})
-		}
-		look(keep)
-	}
-}
-
 // script is calls one behind the other; the power may go in any of them.
 func script(t *testing.T, h *history, source *sample.Source) {
 	t.Helper()
@@ -180,7 +161,9 @@ func TestEachCrash(t *testing.T) {
 		h := newHistory(t)
 		h.d.Stop(stop)
 		script(t, h, &source)
-		keeps(&source, h.d.Unsure(), 250, func(keep []api.Kept) { h.crashed(t, keep) })
+		for keep := range source.Keeps(h.d.Unsure(), 250) {
+			h.crashed(t, keep)
+		}
 		if !h.cut {
 			break
 		}
@@ -197,7 +180,7 @@ func TestEachCrashBehindACrash(t *testing.T) {
 		first := newHistory(t)
 		first.d.Stop(stop)
 		script(t, first, &source)
-		keeps(&source, first.d.Unsure(), 6, func(keep []api.Kept) {
+		for keep := range source.Keeps(first.d.Unsure(), 6) {
 			for again := range 16 {
 				second := first.crashed(t, keep)
 				second.d.Stop(again)
@@ -206,16 +189,16 @@ func TestEachCrashBehindACrash(t *testing.T) {
 						second.commit(t, redosOf(&source, n))
 					}
 				}
-				keeps(&source, second.d.Unsure(), 5, func(keep []api.Kept) {
+				for keep := range source.Keeps(second.d.Unsure(), 5) {
 					third := second.crashed(t, keep)
 					third.commit(t, redosOf(&source, 32))
 					third.flush(t)
 					if fourth := third.crashed(t, nil); !fourth.reads(t, third.states[1]) {
 						t.Error("a commit that was flushed is not there")
 					}
-				})
+				}
 			}
-		})
+		}
 	}
 }
 
@@ -292,13 +275,13 @@ func TestWholeOrNotAtAll(t *testing.T) {
 		h.commit(t, from(&source, 20, count))
 		h.checkpoint(t)
 		h.commit(t, from(&source, 20, count))
-		keeps(&source, h.d.Unsure(), 100, func(keep []api.Kept) {
+		for keep := range source.Keeps(h.d.Unsure(), 100) {
 			if next := h.crashed(t, keep); next.reads(t, h.states[2]) {
 				kept++
 			} else {
 				lost++
 			}
-		})
+		}
 	}
 	if lost != 13 || kept != 13 {
 		t.Errorf("%d were lost, %d kept: a seal is all that is unsure", lost, kept)
@@ -312,7 +295,7 @@ func TestNothingIsLeft(t *testing.T) {
 		h := newHistory(t)
 		h.d.Stop(stop)
 		script(t, h, &source)
-		keeps(&source, h.d.Unsure(), 5, func(keep []api.Kept) {
+		for keep := range source.Keeps(h.d.Unsure(), 5) {
 			next := h.crashed(t, keep)
 			next.clean(t)
 			for i := 1; i < areaCount; i++ {
@@ -328,7 +311,7 @@ func TestNothingIsLeft(t *testing.T) {
 			if len(next.d.Unsure()) != 0 || len(next.c.Dirty()) != 0 {
 				t.Errorf("unsure %d, dirty %d", next.d.Unsure(), next.c.Dirty())
 			}
-		})
+		}
 	}
 }
 
@@ -340,14 +323,14 @@ func TestABeginning(t *testing.T) {
 		h.commit(t, redosOf(&source, n))
 	}
 	met := map[int]int{}
-	keeps(&source, h.d.Unsure(), 200, func(keep []api.Kept) {
+	for keep := range source.Keeps(h.d.Unsure(), 200) {
 		next := h.crashed(t, keep)
 		dirty := next.c.Dirty()
 		if !slices.Equal(dirty, []int{20, 21, 22, 23}[:len(dirty)]) {
 			t.Errorf("dirty: %d", dirty)
 		}
 		met[len(dirty)]++
-	})
+	}
 	if len(met) != 2 || met[3] == 0 || met[4] == 0 {
 		t.Errorf("how many lasted, and how often: %v", met)
 	}

@@ -107,25 +107,6 @@ func (h *history) crashed(t *testing.T, keep []api.Kept) *history {
 	return next
 }
 
-// keeps goes over all that a crash may keep of unsure writes; if there is too much of it, over some.
-func keeps(source *sample.Source, unsure []api.Kept, most int, look func(keep []api.Kept)) {
-	all := 1
-	for _, k := range unsure {
-		all = min(all*(k.Writes+1), most+1)
-	}
-	for i := range min(all, most) {
-		var keep []api.Kept
-		for _, k := range unsure {
-			n := source.Below(k.Writes + 1)
-			if all <= most {
-				n, i = i%(k.Writes+1), i/(k.Writes+1)
-			}
-			keep = append(keep, api.Kept{Block: k.Block, Writes: n})
-		}
-		look(keep)
-	}
-}
-
 // script is calls one behind the other; the power may go in any of them.
 func script(t *testing.T, h *history, source *sample.Source) {
 	t.Helper()
@@ -155,7 +136,9 @@ func TestEachCrash(t *testing.T) {
 		h := begunHistory(t)
 		h.d.Stop(stop)
 		script(t, h, &source)
-		keeps(&source, h.d.Unsure(), 600, func(keep []api.Kept) { h.crashed(t, keep) })
+		for keep := range source.Keeps(h.d.Unsure(), 600) {
+			h.crashed(t, keep)
+		}
 		if !h.cut {
 			break
 		}
@@ -169,7 +152,7 @@ func TestEachCrashBehindACrash(t *testing.T) {
 		first := begunHistory(t)
 		first.d.Stop(stop)
 		script(t, first, &source)
-		keeps(&source, first.d.Unsure(), 12, func(keep []api.Kept) {
+		for keep := range source.Keeps(first.d.Unsure(), 12) {
 			for again := range 9 {
 				second := first.crashed(t, keep)
 				second.d.Stop(again)
@@ -180,15 +163,15 @@ func TestEachCrashBehindACrash(t *testing.T) {
 				if !second.cut {
 					second.append(t, redosOf(&source, 31))
 				}
-				keeps(&source, second.d.Unsure(), 8, func(keep []api.Kept) {
+				for keep := range source.Keeps(second.d.Unsure(), 8) {
 					third := second.crashed(t, keep)
 					third.reset(t)
 					third.append(t, redosOf(&source, 32))
 					third.flush(t)
 					third.crashed(t, nil)
-				})
+				}
 			}
-		})
+		}
 	}
 }
 

@@ -1,7 +1,12 @@
-// Package sample has bytes for the tests of the layers: they look like nothing, and are the same in each run. It also looks at the memory of what calls answer.
+// Package sample has bytes for the tests of the layers: they look like nothing, and are the same in each run. It also tells what crashes may keep, and looks at the memory of what calls answer.
 package sample
 
-import "bytes"
+import (
+	"bytes"
+	"iter"
+
+	"casket/api"
+)
 
 // Source tells bytes, one behind the other; its number at first is what they hang on.
 type Source uint64
@@ -35,6 +40,29 @@ func (s *Source) Parts(b []byte) [][]byte {
 		b = b[size:]
 	}
 	return list
+}
+
+// Keeps goes over all that a crash may keep of unsure writes; if that is more than most, over so many of them.
+func (s *Source) Keeps(unsure []api.Kept, most int) iter.Seq[[]api.Kept] {
+	return func(yield func(keep []api.Kept) bool) {
+		all := 1
+		for _, k := range unsure {
+			all = min(all*(k.Writes+1), most+1)
+		}
+		for i := range min(all, most) {
+			var keep []api.Kept
+			for _, k := range unsure {
+				n := s.Below(k.Writes + 1)
+				if all <= most {
+					n, i = i%(k.Writes+1), i/(k.Writes+1)
+				}
+				keep = append(keep, api.Kept{Block: k.Block, Writes: n})
+			}
+			if !yield(keep) {
+				return
+			}
+		}
+	}
 }
 
 // Bytes are the first ones of the source 0.

@@ -2,7 +2,10 @@ package sample
 
 import (
 	"bytes"
+	"slices"
 	"testing"
+
+	"casket/api"
 )
 
 func TestSameInEachRun(t *testing.T) {
@@ -124,5 +127,42 @@ func TestNotNewLooksAtEachAnswer(t *testing.T) {
 	}
 	if got := NotNew(later); got != "answers share memory" {
 		t.Errorf("handed out behind a copy: %q", got)
+	}
+}
+
+// All that a crash may keep, each once, where that is not too much; else so many, each of which may be kept.
+func TestKeeps(t *testing.T) {
+	source := Source(6)
+	for _, x := range []struct {
+		unsure     []api.Kept
+		most, want int
+	}{
+		{nil, 10, 1},
+		{[]api.Kept{{Block: 3, Writes: 1}}, 10, 2},
+		{[]api.Kept{{Block: 3, Writes: 2}, {Block: 7, Writes: 1}, {Block: 9, Writes: 3}}, 24, 24},
+		{[]api.Kept{{Block: 3, Writes: 2}, {Block: 7, Writes: 1}, {Block: 9, Writes: 3}}, 23, 23},
+		{slices.Repeat([]api.Kept{{Block: 1, Writes: 5}}, 50), 9, 9},
+	} {
+		told, count := map[string]int{}, 0
+		for keep := range source.Keeps(x.unsure, x.most) {
+			count++
+			text := ""
+			for i, k := range keep {
+				if k.Block != x.unsure[i].Block || k.Writes < 0 || k.Writes > x.unsure[i].Writes {
+					t.Errorf("%v of %v", keep, x.unsure)
+				}
+				text += string(rune('0' + k.Writes))
+			}
+			if len(keep) != len(x.unsure) {
+				t.Errorf("%v of %v", keep, x.unsure)
+			}
+			told[text]++
+		}
+		if count != x.want || x.want != 23 && len(told) != count {
+			t.Errorf("%v, at most %d: %d, %d of them unlike", x.unsure, x.most, count, len(told))
+		}
+	}
+	for range source.Keeps([]api.Kept{{Block: 3, Writes: 9}}, 10) {
+		break
 	}
 }
