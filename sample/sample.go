@@ -1,9 +1,10 @@
-// Package sample has bytes for the tests of the layers: they look like nothing, and are the same in each run. It also tells what crashes may keep, and looks at the memory of what calls answer.
+// Package sample has bytes for the tests of the layers: they look like nothing, and are the same in each run. It also tells what crashes may keep and which headers may not be, and looks at the memory of what calls answer.
 package sample
 
 import (
 	"bytes"
 	"iter"
+	"math"
 
 	"casket/api"
 )
@@ -69,6 +70,29 @@ func (s *Source) Keeps(unsure []api.Kept, most int) iter.Seq[[]api.Kept] {
 func Bytes(count int) []byte {
 	var source Source
 	return source.Bytes(count)
+}
+
+// WrongHeads are headers that may not be: most are h, which may be, but for one part.
+func WrongHeads(h api.Head) []api.Head {
+	var list []api.Head
+	change := func(part func(h *api.Head) *int, numbers ...int) {
+		for _, n := range numbers {
+			other := h
+			*part(&other) = n
+			list = append(list, other)
+		}
+	}
+	change(func(h *api.Head) *int { return &h.Sectors }, math.MinInt, -1, 0, api.MaxSectors+1, math.MaxInt)
+	change(func(h *api.Head) *int { return &h.Slots }, math.MinInt, -1, 0, api.MaxSlots+1, math.MaxInt)
+	change(func(h *api.Head) *int { return &h.Journal }, math.MinInt, 0, api.MinJournal-1, api.MaxJournal+1, math.MaxInt)
+	change(func(h *api.Head) *int { return &h.Segment }, math.MinInt, -1, 0, api.MaxSegment+1, math.MaxInt)
+	change(func(h *api.Head) *int { return &h.Params.Time }, -1, 0, api.MaxTime+1)
+	change(func(h *api.Head) *int { return &h.Params.Memory }, -1, 7, api.MaxMemory+1, math.MaxInt)
+	change(func(h *api.Head) *int { return &h.Params.Lanes }, -1, 0, api.MaxLanes+1)
+	unborn, narrow := h, h
+	unborn.Generation = 0
+	narrow.Journal, narrow.Segment = api.MinJournal, api.MinJournal-9 // each may be, but not beside the other
+	return append(list, unborn, narrow, api.Head{})
 }
 
 // NotNew tells what is wrong with the memory of a call's answer, which is the same bytes each time it is asked for; nothing, if the answer and the room behind it are new each time, and the room is empty.

@@ -6,6 +6,7 @@ import (
 	"testing"
 
 	"casket/api"
+	"casket/head"
 )
 
 func TestSameInEachRun(t *testing.T) {
@@ -164,5 +165,19 @@ func TestKeeps(t *testing.T) {
 	}
 	for range source.Keeps([]api.Kept{{Block: 3, Writes: 9}}, 10) {
 		break
+	}
+}
+
+func TestWrongHeads(t *testing.T) {
+	for _, segment := range []int{1, 6, 7, 16} {
+		h := api.Head{Generation: 7, Sectors: 100, Slots: 3, Journal: 40, Segment: segment, Params: api.Params{Time: 1, Memory: 16, Lanes: 2}, Name: [16]byte{1}}
+		if e := head.Check(h); e != api.OK {
+			t.Fatal(e)
+		}
+		for _, wrong := range WrongHeads(h) {
+			if e := head.Check(wrong); e != api.ErrArg {
+				t.Errorf("%+v: %d", wrong, e)
+			}
+		}
 	}
 }

@@ -18,24 +18,7 @@ func usual() api.Head {
 
 // wrong are headers that may not be.
 func wrong() []api.Head {
-	var list []api.Head
-	for _, change := range []func(h *api.Head){
-		func(h *api.Head) { h.Generation = 0 },
-		func(h *api.Head) { h.Sectors = 0 },
-		func(h *api.Head) { h.Sectors = 1025 },
-		func(h *api.Head) { h.Sectors = math.MaxInt },
-		func(h *api.Head) { h.Slots = 9 },
-		func(h *api.Head) { h.Journal = 15 },
-		func(h *api.Head) { h.Journal, h.Segment = 16, 7 },
-		func(h *api.Head) { h.Segment = -1 },
-		func(h *api.Head) { h.Params.Lanes = 5 },
-		func(h *api.Head) { *h = api.Head{} },
-	} {
-		h := usual()
-		change(&h)
-		list = append(list, h)
-	}
-	return list
+	return sample.WrongHeads(usual())
 }
 
 // wordedBlock is a root's block as the chapter words it, whether the root may be or not.

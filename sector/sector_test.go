@@ -31,23 +31,7 @@ func wrongRings() [][]api.EpochKeys {
 
 // wrongHeads are headers that may not be.
 func wrongHeads() []api.Head {
-	var list []api.Head
-	for _, change := range []func(h *api.Head){
-		func(h *api.Head) { h.Generation = 0 },
-		func(h *api.Head) { h.Sectors = 0 },
-		func(h *api.Head) { h.Sectors = 1025 },
-		func(h *api.Head) { h.Slots = 9 },
-		func(h *api.Head) { h.Journal = 15 },
-		func(h *api.Head) { h.Journal, h.Segment = 16, 7 },
-		func(h *api.Head) { h.Segment = 17 },
-		func(h *api.Head) { h.Params.Memory = 7 },
-		func(h *api.Head) { *h = api.Head{} },
-	} {
-		h := headOf(20, 4, 20)
-		change(&h)
-		list = append(list, h)
-	}
-	return list
+	return sample.WrongHeads(headOf(20, 4, 20))
 }
 
 // P19.2: the chapter's example.
