@@ -52,36 +52,6 @@ func from(source *sample.Source, n, count int) []api.Redo {
 	return redosOf(source, list...)
 }
 
-// sameDisks tells whether two disks are the same in all that can be told of them.
-func sameDisks(a, b *disk.Disk) bool {
-	if a.Len() != b.Len() || a.Off() != b.Off() || !slices.Equal(a.Unsure(), b.Unsure()) {
-		return false
-	}
-	for n := range a.Len() {
-		if !bytes.Equal(a.Sure(n), b.Sure(n)) {
-			return false
-		}
-	}
-	// A crash that keeps more and more tells what each of the unsure writes was.
-	for writes, more := 1, true; more; writes++ {
-		var keep []api.Kept
-		more = false
-		for _, k := range a.Unsure() {
-			more = more || k.Writes > writes
-			keep = append(keep, api.Kept{Block: k.Block, Writes: min(k.Writes, writes)})
-		}
-		x, y := a.Fork(), b.Fork()
-		x.Crash(keep)
-		y.Crash(keep)
-		for _, k := range keep {
-			if !bytes.Equal(x.Sure(k.Block), y.Sure(k.Block)) {
-				return false
-			}
-		}
-	}
-	return true
-}
-
 // worded is a cache as the chapter words it, on a disk of its own.
 type worded struct {
 	disk   *disk.Disk
@@ -222,7 +192,7 @@ func (p *pair) open() {
 // same holds all that can be told of both against each other.
 func (p *pair) same(what string) {
 	p.t.Helper()
-	if !sameDisks(p.d, p.w.disk) {
+	if !sample.SameDisks(p.d, p.w.disk) {
 		p.t.Errorf("%s: other disks", what)
 	}
 	dirty := slices.Sorted(maps.Keys(p.w.dirty))
@@ -368,7 +338,7 @@ func TestOpenIsRefused(t *testing.T) {
 	}
 	refused("no disk", nil, 10, 40, api.ErrArg)
 	refused("no mark", d, 11, 40, api.ErrFormat)
-	if !sameDisks(d, kept) {
+	if !sample.SameDisks(d, kept) {
 		t.Error("the disk was changed")
 	}
 	d.Stop(0)
@@ -401,7 +371,7 @@ func TestOpen(t *testing.T) {
 		p.w.disk.Flush()
 		kept := p.d.Fork()
 		p.open()
-		if !sameDisks(p.d, kept) {
+		if !sample.SameDisks(p.d, kept) {
 			t.Error("Open changed the disk")
 		}
 		if got := p.c.Dirty(); !slices.Equal(got, slices.Sorted(maps.Keys(last))) || len(got) < 4 {

@@ -53,39 +53,6 @@ func sameRedos(a, b []api.Redo) bool {
 	return slices.EqualFunc(a, b, func(x, y api.Redo) bool { return x.Block == y.Block && bytes.Equal(x.Bytes, y.Bytes) })
 }
 
-// sameDisks tells whether two disks are the same in all that can be told of them.
-func sameDisks(a, b *disk.Disk) bool {
-	if a.Len() != b.Len() || a.Off() != b.Off() || !slices.Equal(a.Unsure(), b.Unsure()) {
-		return false
-	}
-	a, b = a.Fork(), b.Fork()
-	for n := range a.Len() {
-		if !bytes.Equal(a.Sure(n), b.Sure(n)) {
-			return false
-		}
-	}
-	// A crash that keeps more and more tells what each of the unsure writes was.
-	for writes := 0; ; writes++ {
-		var keep []api.Kept
-		more := false
-		for _, k := range a.Unsure() {
-			more = more || k.Writes > writes
-			keep = append(keep, api.Kept{Block: k.Block, Writes: min(k.Writes, writes)})
-		}
-		x, y := a.Fork(), b.Fork()
-		x.Crash(keep)
-		y.Crash(keep)
-		for _, k := range keep {
-			if !bytes.Equal(x.Sure(k.Block), y.Sure(k.Block)) {
-				return false
-			}
-		}
-		if !more {
-			return true
-		}
-	}
-}
-
 // flush is an op's block, where it is no write.
 const flush = -1
 
@@ -309,7 +276,7 @@ func (p *pair) stop(n int) {
 // same holds all that can be told of both against each other.
 func (p *pair) same(what string) {
 	p.t.Helper()
-	if !sameDisks(p.d, p.w.disk) {
+	if !sample.SameDisks(p.d, p.w.disk) {
 		p.t.Errorf("%s: other disks", what)
 	}
 	number := p.w.number
@@ -393,7 +360,7 @@ func TestWrongAreas(t *testing.T) {
 	d.Stop(0)
 	wrong(d, 285, 16)
 	kept.Stop(0)
-	if !sameDisks(d, kept) {
+	if !sample.SameDisks(d, kept) {
 		t.Error("the disk was changed")
 	}
 }
@@ -409,14 +376,14 @@ func TestInit(t *testing.T) {
 		}
 		twin.Write(area[0], mark)
 		twin.Flush()
-		if !sameDisks(d, twin) {
+		if !sample.SameDisks(d, twin) {
 			t.Errorf("Init%d: another disk", area)
 		}
 		j, l, e := Open(d, area[0], area[1])
 		if e != api.OK || len(l) != 0 || j.Number() != 1 || j.Used() != 0 || j.Begun() || j.Room() != 0 || j.Most() != min(64, area[1]-3) {
 			t.Errorf("Open%d: %d", area, e)
 		}
-		if !sameDisks(d, twin) {
+		if !sample.SameDisks(d, twin) {
 			t.Errorf("Open%d: another disk", area)
 		}
 	}
@@ -439,7 +406,7 @@ func TestInitIsRefused(t *testing.T) {
 		if e := Init(d, 3, 20); e != want || (e == api.ErrIO) != (stop < 2) {
 			t.Errorf("off behind %d: %d", stop, e)
 		}
-		if !sameDisks(d, twin) {
+		if !sample.SameDisks(d, twin) {
 			t.Errorf("off behind %d: another disk", stop)
 		}
 	}

@@ -269,7 +269,7 @@ func TestPathAndCheck(t *testing.T) {
 				t.Errorf("%d sectors: Check of %d: %d", sectors, i, e)
 			}
 		}
-		if v.s.Len() != 0 || !sameDisks(v.d, before) {
+		if v.s.Len() != 0 || !sample.SameDisks(v.d, before) {
 			t.Errorf("%d sectors: something was staged, or written", sectors)
 		}
 	}
@@ -466,7 +466,7 @@ func TestChange(t *testing.T) {
 			v.s.Drop()
 			v.tags[i], v.root = tags, root
 		}
-		if !sameDisks(v.d, before) {
+		if !sample.SameDisks(v.d, before) {
 			t.Errorf("%d sectors: something was written", sectors)
 		}
 	}
@@ -721,22 +721,6 @@ func TestAnswersAreNew(t *testing.T) {
 	if !bytes.Equal(nodes[0][0], first) {
 		t.Error("fresh nodes share memory")
 	}
-}
-
-// sameDisks tells whether two disks are the same in all that can be told of them, with all unsure writes or none.
-func sameDisks(a, b *disk.Disk) bool {
-	if a.Len() != b.Len() || a.Off() != b.Off() || !slices.Equal(a.Unsure(), b.Unsure()) {
-		return false
-	}
-	x, y := a.Fork(), b.Fork()
-	x.Crash(a.Unsure())
-	y.Crash(b.Unsure())
-	for n := range a.Len() {
-		if !bytes.Equal(a.Sure(n), b.Sure(n)) || !bytes.Equal(x.Sure(n), y.Sure(n)) {
-			return false
-		}
-	}
-	return true
 }
 
 // redosOf are blocks, by rising numbers.

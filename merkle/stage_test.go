@@ -43,7 +43,7 @@ func (p *pair) open() {
 // same holds all that can be told of both against each other.
 func (p *pair) same(what string) {
 	p.t.Helper()
-	if !sameDisks(p.v.d, p.twin) {
+	if !sample.SameDisks(p.v.d, p.twin) {
 		p.t.Errorf("%s: other disks", what)
 	}
 	if p.v.s.Len() != len(p.staged) {
@@ -213,7 +213,7 @@ func TestCommitOfNone(t *testing.T) {
 	p := newPair(t, 100)
 	before := p.v.d.Fork()
 	p.commit("none", api.OK)
-	if !sameDisks(p.v.d, before) {
+	if !sample.SameDisks(p.v.d, before) {
 		t.Error("something was written")
 	}
 	p.stop(0)

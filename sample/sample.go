@@ -1,10 +1,11 @@
-// Package sample has bytes for the tests of the layers: they look like nothing, and are the same in each run. It also tells what crashes may keep and which headers may not be, and looks at the memory of what calls answer.
+// Package sample has bytes for the tests of the layers: they look like nothing, and are the same in each run. It also tells what crashes may keep and which headers may not be, holds disks against each other, and looks at the memory of what calls answer.
 package sample
 
 import (
 	"bytes"
 	"iter"
 	"math"
+	"slices"
 
 	"casket/api"
 )
@@ -93,6 +94,49 @@ func WrongHeads(h api.Head) []api.Head {
 	unborn.Generation = 0
 	narrow.Journal, narrow.Segment = api.MinJournal, api.MinJournal-9 // each may be, but not beside the other
 	return append(list, unborn, narrow, api.Head{})
+}
+
+// Disk is what a disk can tell of itself. Package disk is not asked for by name: its own tests take bytes from here.
+type Disk[D any] interface {
+	Len() int
+	Off() bool
+	Unsure() []api.Kept
+	Sure(n int) []byte
+	Crash(keep []api.Kept) api.Errno
+	Fork() D
+}
+
+// SameDisks tells whether two disks are the same in all that can be told of them.
+func SameDisks[D Disk[D]](a, b D) bool {
+	if a.Len() != b.Len() || a.Off() != b.Off() || !slices.Equal(a.Unsure(), b.Unsure()) {
+		return false
+	}
+	for n := range a.Len() {
+		if !bytes.Equal(a.Sure(n), b.Sure(n)) {
+			return false
+		}
+	}
+	// Crashes that keep more and more tell what each of the unsure writes was.
+	for writes, more := 1, true; more; writes++ {
+		var keep []api.Kept
+		more = false
+		for _, k := range a.Unsure() {
+			more = more || k.Writes > writes
+			keep = append(keep, api.Kept{Block: k.Block, Writes: min(k.Writes, writes)})
+		}
+		if !sameBehind(a, b, keep) {
+			return false
+		}
+	}
+	return true
+}
+
+// sameBehind tells whether a crash leaves the same of two disks' unsure writes.
+func sameBehind[D Disk[D]](a, b D, keep []api.Kept) bool {
+	a, b = a.Fork(), b.Fork()
+	a.Crash(keep)
+	b.Crash(keep)
+	return !slices.ContainsFunc(keep, func(k api.Kept) bool { return !bytes.Equal(a.Sure(k.Block), b.Sure(k.Block)) })
 }
 
 // NotNew tells what is wrong with the memory of a call's answer, which is the same bytes each time it is asked for; nothing, if the answer and the room behind it are new each time, and the room is empty.

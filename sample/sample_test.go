@@ -6,6 +6,7 @@ import (
 	"testing"
 
 	"casket/api"
+	"casket/disk"
 	"casket/head"
 )
 
@@ -179,5 +180,56 @@ func TestWrongHeads(t *testing.T) {
 				t.Errorf("%+v: %d", wrong, e)
 			}
 		}
+	}
+}
+
+// Two disks are the same, till one of them has something else: a length, a power, a block for sure, one of its unsure writes, or how many it has.
+func TestSameDisks(t *testing.T) {
+	write := func(d *disk.Disk, n int, texts ...string) {
+		for _, text := range texts {
+			b := make([]byte, 512)
+			copy(b, text)
+			if e := d.Write(n, b); e != api.OK {
+				t.Fatal("Write", e)
+			}
+		}
+	}
+	one, _ := disk.New(9)
+	write(one, 2, "sure")
+	one.Flush()
+	write(one, 2, "first", "second", "third")
+	write(one, 5, "first")
+	if !SameDisks(one, one.Fork()) {
+		t.Error("a fork is another one")
+	}
+	for what, change := range map[string]func(d *disk.Disk){
+		"off":              func(d *disk.Disk) { d.Stop(0) },
+		"flushed":          func(d *disk.Disk) { d.Flush() },
+		"a block more":     func(d *disk.Disk) { write(d, 8, "") },
+		"a write more":     func(d *disk.Disk) { write(d, 2, "third") },
+		"crashed":          func(d *disk.Disk) { d.Crash(nil) },
+		"a sure block":     func(d *disk.Disk) { d.Tamper(7, Bytes(512)) },
+		"another sure one": func(d *disk.Disk) { d.Tamper(2, Bytes(512)); write(d, 2, "first", "second", "third") },
+		"another first one": func(d *disk.Disk) {
+			d.Crash([]api.Kept{{Block: 5, Writes: 0}})
+			write(d, 2, "1st", "second", "third")
+			write(d, 5, "first")
+		},
+		"another one":      func(d *disk.Disk) { d.Crash(nil); write(d, 2, "first", "2nd", "third"); write(d, 5, "first") },
+		"another last one": func(d *disk.Disk) { d.Crash(nil); write(d, 2, "first", "second", "3rd"); write(d, 5, "first") },
+	} {
+		other := one.Fork()
+		change(other)
+		if SameDisks(one, other) || SameDisks(other, one) {
+			t.Errorf("%s: it is the same", what)
+		}
+	}
+	again := one.Fork()
+	again.Crash(nil)
+	write(again, 5, "first")
+	write(again, 2, "first", "second", "third")
+	short, _ := disk.New(8)
+	if !SameDisks(one, again) || SameDisks(one, short) || SameDisks(short, one) {
+		t.Error("written anew it is another one, or a shorter one is the same")
 	}
 }

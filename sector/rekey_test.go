@@ -288,7 +288,7 @@ func TestMoveIsCutOff(t *testing.T) {
 		t.Fatal(e)
 	}
 	before := d.Fork()
-	if e := s.Move(); e != api.ErrLong || s.Root() != v.root || !sameDisks(d, before) {
+	if e := s.Move(); e != api.ErrLong || s.Root() != v.root || !sample.SameDisks(d, before) {
 		t.Errorf("a short journal: %d, %+v", e, s.Root())
 	}
 	if b, e := s.Read(3); e != api.OK || !bytes.Equal(b, v.read(3)) {

@@ -672,7 +672,7 @@ func TestOneFunction(t *testing.T) {
 		n, b := source.Below(20), source.Bytes(512)
 		one.doWrite(n, b)
 		other.doWrite(n, b)
-		if !sameDisks(one.d, other.d) {
+		if !sample.SameDisks(one.d, other.d) {
 			t.Fatal("unlike disks")
 		}
 	}

@@ -225,7 +225,7 @@ func (v *volume) open() {
 // same asks that the disks and the caches are the same, and that the store's root and ring are the words'.
 func (v *volume) same(what string) {
 	v.t.Helper()
-	if !sameDisks(v.d, v.twin) || !slices.Equal(v.c.Dirty(), v.twinC.Dirty()) || v.c.Used() != v.twinC.Used() {
+	if !sample.SameDisks(v.d, v.twin) || !slices.Equal(v.c.Dirty(), v.twinC.Dirty()) || v.c.Used() != v.twinC.Used() {
 		v.t.Fatalf("%s: another disk; dirty %d, not %d; used %d, not %d", what, v.c.Dirty(), v.twinC.Dirty(), v.c.Used(), v.twinC.Used())
 	}
 	if got := v.s.Root(); got != v.root {
@@ -360,20 +360,4 @@ func (v *volume) right(what string) {
 		}
 	}
 	v.same(what)
-}
-
-// sameDisks tells whether two disks are the same in all that can be told of them, with all unsure writes or none.
-func sameDisks(a, b *disk.Disk) bool {
-	if a.Len() != b.Len() || a.Off() != b.Off() || !slices.Equal(a.Unsure(), b.Unsure()) {
-		return false
-	}
-	x, y := a.Fork(), b.Fork()
-	x.Crash(a.Unsure())
-	y.Crash(b.Unsure())
-	for n := range a.Len() {
-		if !bytes.Equal(a.Sure(n), b.Sure(n)) || !bytes.Equal(x.Sure(n), y.Sure(n)) {
-			return false
-		}
-	}
-	return true
 }
